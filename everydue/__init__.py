@@ -1,0 +1,1 @@
+"""Everydue: when things are due, for all time."""
