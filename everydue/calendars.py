@@ -135,7 +135,13 @@ def _year_of(calendar, day):
     return cycles * years + low
 
 
-def _month_days(calendar, year):
+def great_years(calendar):
+    """Returns the number of years of the great cycle (point 3)."""
+    years, days = cycle_of(calendar)
+    return days // _year_begin(_shape_of(calendar), years) * years
+
+
+def month_days(calendar, year):
     """Returns a list of the numbers of days of the months of a year."""
     days = list(calendar[0])
     if is_long(calendar, year):
@@ -145,7 +151,7 @@ def _month_days(calendar, year):
 
 def day_of(calendar, year, month, number):
     """Returns the day with a date (point 5); raises NoSuchDay if there is none."""
-    days = _month_days(calendar, year)
+    days = month_days(calendar, year)
     if not 1 <= month <= len(days) or not 1 <= number <= days[month - 1]:
         raise NoSuchDay("there is no day with this date")
     return _year_begin(_shape_of(calendar), year) + sum(days[:month - 1]) + number - 1
@@ -156,7 +162,7 @@ def date_of(calendar, day):
     year = _year_of(calendar, day)
     rest = day - _year_begin(_shape_of(calendar), year)
     month = 1
-    for days in _month_days(calendar, year):
+    for days in month_days(calendar, year):
         if rest < days:
             break
         rest -= days
@@ -203,15 +209,25 @@ def week_of(calendar, day):
     """Returns the year to which the week of a day belongs, and its places among that year's weeks (point 8)."""
     week = period_of(calendar, "week", day)
     year = _year_of_week(calendar, week)
-    shape = _shape_of(calendar)
-    # Weeks inside of a year belong to it, so only the two at its ends may belong to other years.
-    first = period_of(calendar, "week", _year_begin(shape, year))
-    if _year_of_week(calendar, first) != year:
-        first += 1
-    last = period_of(calendar, "week", _year_begin(shape, year + 1) - 1)
-    if _year_of_week(calendar, last) != year:
-        last -= 1
+    first, last = weeks_of(calendar, year)
     return year, week - first + 1, week - last - 1
+
+
+def weeks_of(calendar, year):
+    """Returns the first and the last week that belong to a year; last is less than first if there is none (point 8)."""
+    shape = _shape_of(calendar)
+    begin, end = _year_begin(shape, year), _year_begin(shape, year + 1)
+    first = period_of(calendar, "week", begin)
+    last = period_of(calendar, "week", end - 1)
+    if shape[0] >= calendar[4]:
+        # No week has days of three years, so the later year has its greater part if it has half of it.
+        in_first = first_day(calendar, "week", first + 1) - begin
+        in_last = end - first_day(calendar, "week", last)
+        owns_first, owns_last = 2 * in_first >= calendar[4], 2 * in_last > calendar[4]
+    else:
+        owns_first, owns_last = _year_of_week(calendar, first) == year, _year_of_week(calendar, last) == year
+    # Weeks inside of a year belong to it, so only the two at its ends may belong to other years.
+    return first if owns_first else first + 1, last if owns_last else last - 1
 
 
 def _year_of_week(calendar, week):

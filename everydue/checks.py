@@ -27,3 +27,36 @@ def is_tuple(value):
 def is_tuple_of(value, many):
     """Whether a value is a tuple with so many members."""
     return is_tuple(value) and len(value) == many
+
+
+def is_whole_or_none(value):
+    """Whether a value is an integer or None."""
+    return value is None or is_whole(value)
+
+
+def is_name(value):
+    """Whether a value is a name: 1 to 12 of the letters a to z."""
+    if type(value) is not str or not 1 <= len(value) <= 12:
+        return False
+    return all(["a" <= letter <= "z" for letter in value])
+
+
+def is_unit(value):
+    """Whether a value is a unit (point 6)."""
+    return value in ("day", "week", "month", "year")
+
+
+def are_places(value):
+    """Whether a value is the places of a rule (point 20)."""
+    if not is_tuple(value) or len(value) > 12:
+        return False
+    if not all([is_from_to(place, -400, 400) and place != 0 for place in value]):
+        return False
+    return len(set(value)) == len(value)
+
+
+def is_ascending(values):
+    """Whether all of some values are integers, each greater than the one ahead of it."""
+    if not all([is_whole(value) for value in values]):
+        return False
+    return all([one < two for one, two in zip(values, values[1:])])

@@ -2,7 +2,7 @@
 
 from everydue.checks import is_tuple, is_tuple_of, is_whole
 from everydue.sides import MOST_BORDERS, count_below, first_apart, first_apart_from_runs
-from everydue.sides import is_side, least_side, mirrored_side, side_holds
+from everydue.sides import is_side, least_side, mirrored_side, runs_of_days, side_holds, side_of_rests
 
 EMPTY = ((1, (), False), 0, (), 0, (1, (), False))
 ALL = ((1, (), True), 0, (), 0, (1, (), True))
@@ -70,29 +70,20 @@ def _right_begins(right, runs, begin, high):
 
 def single(days):
     """Returns the normal dayset of a list of integers."""
-    runs = []
-    for day in sorted(set(days)):
-        if runs and runs[-1][1] == day:
-            runs[-1] = (runs[-1][0], day + 1)
-        else:
-            runs.append((day, day + 1))
+    runs = tuple(runs_of_days(sorted(set(days))))
     if not runs:
         return EMPTY
-    nothing = (1, (), False)
-    return (nothing, runs[0][0], tuple(runs), runs[-1][1], nothing)
+    nothing = EMPTY[0]
+    return (nothing, runs[0][0], runs, runs[-1][1], nothing)
 
 
 def periodic(period, rests):
     """Returns the normal dayset of all integers with the remainders, divided by the period, of those in a list."""
-    held = {rest % period: True for rest in rests}
-    borders = []
-    for rest in held:
-        behind = (rest + 1) % period
-        if (rest - 1) % period not in held:
-            borders.append(rest)
-        if behind not in held:
-            borders.append(behind)
-    side = least_side((period, tuple(sorted(borders)), period - 1 in held))
+    return pure(side_of_rests(period, [rest % period for rest in rests]))
+
+
+def pure(side):
+    """Returns the normal dayset of all integers in a least side."""
     return (side, 0, (), 0, side)
 
 

@@ -63,6 +63,41 @@ def _repeats(steps):
     return 1
 
 
+def side_of_runs(period, runs):
+    """Returns the least side of the integers whose remainders, divided by a period, lie in some runs.
+
+    The runs lie from 0 to the period, ascend and do not touch one another.
+    """
+    borders = [border for run in runs for border in run]
+    inside = bool(borders) and borders[-1] == period
+    if inside:
+        # What holds the last remainder goes on at the first one, or ends there.
+        borders.pop()
+        borders = borders[1:] if borders[0] == 0 else [0, *borders]
+    return least_side((period, tuple(borders), inside))
+
+
+def side_of_rests(period, rests):
+    """Returns the least side of the integers whose remainders, divided by a period, are in a list."""
+    return side_of_runs(period, runs_of_days(sorted(set(rests))))
+
+
+def runs_of_days(days):
+    """Returns a list of the runs of some days, which ascend."""
+    return touching_joined([(day, day + 1) for day in days])
+
+
+def touching_joined(runs):
+    """Returns a list of some ascending runs, with those made one that touch one another."""
+    rows = []
+    for begin, end in runs:
+        if rows and rows[-1][1] == begin:
+            rows[-1] = (rows[-1][0], end)
+        else:
+            rows.append((begin, end))
+    return rows
+
+
 def mirrored_side(side):
     """Returns the side of those x for which -x is in a side."""
     period, borders, _ = side
@@ -106,6 +141,8 @@ class Walk:
 
 def first_apart(one, two, begin):
     """Returns the least integer from begin on that is in just one of two sides; None if there is none."""
+    if one == two:
+        return None
     # What has two periods, over a stretch as long as both together, has their greatest common divisor
     # as a period, too: two sides that agree so far agree for ever.
     end = begin + one[0] + two[0]

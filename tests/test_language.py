@@ -6,6 +6,8 @@ import re
 import unittest
 from pathlib import Path
 
+from tests.test_interface import FUNCTIONS
+
 FOLDER = Path(__file__).resolve().parent.parent / "everydue"
 
 LIBRARY = {
@@ -126,6 +128,53 @@ class LanguageTest(unittest.TestCase):
         for place, node in self.nodes(ast.Constant):
             if isinstance(node.value, str):
                 self.assertNotIn("%", node.value, place)
+
+    def test_no_local_name_is_that_of_an_import_a_class_or_a_function_of_the_file(self):
+        for path, tree in self.trees.items():
+            bound = [name for stem in tree.body for name in bound_by(stem)]
+            for node in ast.walk(tree):
+                if isinstance(node, (ast.FunctionDef, ast.Lambda)):
+                    for inner in ast.walk(node):
+                        if isinstance(inner, ast.arg):
+                            self.assertNotIn(inner.arg, bound, f"{path.name}:{inner.lineno}")
+                        if isinstance(inner, ast.Name) and isinstance(inner.ctx, ast.Store):
+                            self.assertNotIn(inner.id, bound, f"{path.name}:{inner.lineno}")
+
+    def test_no_import_and_no_function_is_left_over(self):
+        public = {name for functions in FUNCTIONS.values() for name in functions}
+        for path, tree in self.trees.items():
+            used = {node.id for node in ast.walk(tree) if isinstance(node, ast.Name)}
+            for stem in tree.body:
+                if isinstance(stem, ast.ImportFrom):
+                    for name in stem.names:
+                        self.assertIn(name.name, used, path)
+                        public.add(name.name)
+        for path, tree in self.trees.items():
+            used = {node.id for node in ast.walk(tree) if isinstance(node, ast.Name)}
+            for stem in tree.body:
+                if isinstance(stem, ast.FunctionDef):
+                    self.assertTrue(stem.name in used or stem.name in public, f"{path.name}: {stem.name}")
+
+    def test_attributes_and_methods(self):
+        stored = {node.attr for _, node in self.nodes(ast.Attribute) if isinstance(node.ctx, ast.Store)}
+        methods = {
+            stem.name for _, node in self.nodes(ast.ClassDef) for stem in node.body if isinstance(stem, ast.FunctionDef)
+        }
+        # The document gives this name to a field of an error and to a method of books.
+        self.assertEqual(stored & methods, {"answer"})
+        for kind in (str, int, list, dict, set, bytes, tuple):
+            self.assertEqual({name for name in stored | methods if hasattr(kind, name) and name != "__init__"}, set())
+
+    def test_sets_stand_where_they_may(self):
+        for path, tree in self.trees.items():
+            for node in ast.walk(tree):
+                for child in ast.iter_child_nodes(node):
+                    is_call = isinstance(child, ast.Call) and getattr(child.func, "id", "") == "set"
+                    if is_call or isinstance(child, (ast.Set, ast.SetComp)):
+                        place = f"{path.name}:{child.lineno}"
+                        self.assertIn(getattr(getattr(node, "func", None), "id", ""), ("sorted", "len"), place)
+                        for inner in ast.walk(child):
+                            self.assertFalse(isinstance(child, ast.Set) and isinstance(inner, ast.Starred), place)
 
     def test_names_at_module_level_are_bound_once(self):
         for path, tree in self.trees.items():
