@@ -207,8 +207,12 @@ def places_of(calendar, unit, day):
 
 def week_of(calendar, day):
     """Returns the year to which the week of a day belongs, and its places among that year's weeks (point 8)."""
-    week = period_of(calendar, "week", day)
-    year = _year_of_week(calendar, week)
+    return places_of_week(calendar, period_of(calendar, "week", day), _year_of(calendar, day))
+
+
+def places_of_week(calendar, week, near):
+    """Returns what week_of tells of the days of a week, some of which lie in the year near."""
+    year = _year_of_week(calendar, week, near)
     first, last = weeks_of(calendar, year)
     return year, week - first + 1, week - last - 1
 
@@ -219,23 +223,22 @@ def weeks_of(calendar, year):
     begin, end = _year_begin(shape, year), _year_begin(shape, year + 1)
     first = period_of(calendar, "week", begin)
     last = period_of(calendar, "week", end - 1)
-    if shape[0] >= calendar[4]:
-        # No week has days of three years, so the later year has its greater part if it has half of it.
-        in_first = first_day(calendar, "week", first + 1) - begin
-        in_last = end - first_day(calendar, "week", last)
-        owns_first, owns_last = 2 * in_first >= calendar[4], 2 * in_last > calendar[4]
-    else:
-        owns_first, owns_last = _year_of_week(calendar, first) == year, _year_of_week(calendar, last) == year
     # Weeks inside of a year belong to it, so only the two at its ends may belong to other years.
-    return first if owns_first else first + 1, last if owns_last else last - 1
+    if _year_of_week(calendar, first, year) != year:
+        first += 1
+    if last >= first and _year_of_week(calendar, last, year) != year:
+        last -= 1
+    return first, last
 
 
-def _year_of_week(calendar, week):
-    """Returns the year to which the week with a number belongs."""
+def _year_of_week(calendar, week, near):
+    """Returns the year to which a week belongs, some days of which lie in the year near."""
     begin = first_day(calendar, "week", week)
     end = begin + calendar[4]
     shape = _shape_of(calendar)
-    year = _year_of(calendar, begin)
+    year = near
+    while _year_begin(shape, year) > begin:
+        year -= 1
     owner, most = year, 0
     while begin < end:
         behind = min(end, _year_begin(shape, year + 1))

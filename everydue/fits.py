@@ -1,6 +1,6 @@
 """The days that fit the lists of a rule (point 21)."""
 
-from everydue.calendars import first_day, month_days, period_of, week_of, weekday_of, weeks_of
+from everydue.calendars import first_day, month_days, period_of, places_of_week, weekday_of, weeks_of
 
 
 class Fits:
@@ -69,14 +69,14 @@ class Fits:
             days = [day for day in days if self._fits_weekday("year weekdays", day, begin, length)]
         if "weeks" in self.lists and days:
             first, last = weeks_of(self._calendar, year)
-            days = [day for day in days if self._fits_week(day, first, last)]
+            days = [day for day in days if self._fits_week(day, year, first, last)]
         return days
 
-    def _fits_week(self, day, first, last):
-        """Returns whether a day fits the list of weeks; from first to last go those of the year of the day."""
+    def _fits_week(self, day, year, first, last):
+        """Returns whether a day of a year fits the list of weeks; from first to last go those of this year."""
         week = period_of(self._calendar, "week", day)
         if first <= week <= last:
             return self._fits_place("weeks", week - first, last - first + 1)
         # The week belongs to another year.
-        _, ahead, behind = week_of(self._calendar, day)
+        _, ahead, behind = places_of_week(self._calendar, week, year)
         return ahead in self.lists["weeks"] or behind in self.lists["weeks"]

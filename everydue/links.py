@@ -25,7 +25,8 @@ def reached_from(links, name):
     reached = {}
     waiting = [name]
     while waiting:
-        for other in links[waiting.pop()]:
+        others = links[waiting.pop()]
+        for other in others:
             if other not in reached:
                 reached[other] = True
                 waiting.append(other)

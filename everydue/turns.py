@@ -4,16 +4,18 @@ from everydue.calendars import first_day, great_years, month_days, period_of, we
 
 
 def turns_of_year(calendar, rows, year):
-    """Returns a list of the turns of a year, pairs of a moment and an offset, in the order of their moments."""
+    """Returns a list of the turns of a year, pairs of a moment and an offset, in the order of their moments.
+
+    The rows are possible ones.
+    """
     lengths = month_days(calendar, year)
     begin = first_day(calendar, "year", year)
     found = []
     for month, place, weekday, minute, offset in rows:
-        if month <= len(lengths):
-            first = begin + sum(lengths[:month - 1])
-            day = _day_at(calendar, first, lengths[month - 1], place, weekday)
-            if day is not None:
-                found.append((day * calendar[6] + minute, offset))
+        first = begin + sum(lengths[:month - 1])
+        day = _day_at(calendar, first, lengths[month - 1], place, weekday)
+        if day is not None:
+            found.append((day * calendar[6] + minute, offset))
     return sorted(found)
 
 
@@ -21,8 +23,6 @@ def _day_at(calendar, first, length, place, weekday):
     """Returns the day with a place among the days of a month, or among those with a weekday; None if there is none."""
     step = 1
     if weekday is not None:
-        if weekday >= calendar[4]:
-            return None
         step = calendar[4]
         ahead = (weekday - weekday_of(calendar, first)) % step
         first += ahead

@@ -151,7 +151,8 @@ def days_at(calendar, dayset, minute, zone, way):
     points, unanswered = _answers(calendar, row, minute, table, way)
     if way in ("later", "earlier"):
         step = 1 if way == "later" else -1
-        # A day later, or earlier, no move is near: there the offset is the one ahead of the move, or behind it.
+        # A day ahead of a local time that is left out, the offset is the one ahead of the move that leaves it out,
+        # and a day behind it the one from the move on: no other move is so near.
         for offset, days in table.rows_at(minute):
             found = combined([unanswered, moved(days, step)], IN_BOTH)
             points.append(_point(calendar, found, minute - offset))

@@ -268,6 +268,14 @@ class WatchTest(unittest.TestCase):
         self.assertEqual(self.renew(), 6)
         self.assertEqual(self.renew(), 0)
 
+    def test_new_pairs_stand_among_those_that_are_kept(self):
+        self.book.put("b", ("at", ("set", ALL), 5, "u", "both"))
+        self.assertEqual(self.renew(), 3)
+        self.assertEqual([row[:2] for row in self.watch.clashes()], [("a", "b"), ("a", "d"), ("b", "d")])
+        self.book.put("d", ("at", ("days", (2,)), 5, "u", "both"))
+        self.assertEqual(self.renew(), 3)
+        self.assertEqual(self.watch.clashes(), [("a", "b", 5), ("a", "d", 25), ("b", "d", 25)])
+
     def test_a_change_that_is_taken_back(self):
         self.book.drop("a")
         self.book.put("a", ("at", ("set", periodic(2, [0])), 5, "u", "both"))

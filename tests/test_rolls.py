@@ -72,6 +72,9 @@ class RolledTest(unittest.TestCase):
         self.assertEqual(rolled(single([10 ** 30]), marks, "on"), EMPTY)
         self.assertEqual(rolled(single([10 ** 30]), marks, "back"), single([30]))
         self.assertEqual(rolled(single([10 ** 30]), marks, "near"), single([30]))
+        for x, way, told in ((9, "on", [10]), (9, "near", [10]), (9, "back", []), (31, "on", []), (31, "near", [30]), (31, "back", [30]),
+                             (10, "on", [10]), (10, "back", [10]), (30, "on", [30]), (30, "near", [30])):
+            self.assertEqual(rolled(single([x]), marks, way), single(told), (x, way))
         left, right = periodic(7, [0])[0], periodic(5, [2])[0]
         self.assertEqual(rolled((left, 0, (), 0, NOTHING), marks, "on"), single([10]))
         self.assertEqual(rolled((NOTHING, 40, (), 40, right), marks, "on"), EMPTY)

@@ -160,6 +160,13 @@ class SomeRulesTest(unittest.TestCase):
         self.assertEqual(rule_days(GREGORIAN, rule("day", lists=never, since=5, number=10 ** 9)), EMPTY)
         self.assertEqual(rule_days(GREGORIAN, rule("day", lists=never, since=5, until=10 ** 30)), EMPTY)
 
+    def test_tells_at_since_and_until(self):
+        for one, days in ((rule("day", 3, since=6, until=12), [6, 9, 12]), (rule("day", 3, since=5, until=13), [6, 9, 12]),
+                          (rule("day", 3, since=7, until=11), [9]), (rule("day", 3, until=0), [-6, -3, 0]),
+                          (rule("day", 3, since=12), [12, 15, 18]), (rule("day", 3, since=6, until=12, number=2), [6, 9]),
+                          (rule("day", 3, since=6, until=9, number=3), [6, 9])):
+            self.assertEqual([day for day in range(-8, 20) if tells(GREGORIAN, one, day)], days)
+
     def test_tells_counts_far_away(self):
         one = rule("month", 1, 0, (("days", (13,)), ("weekdays", (4,))), since=-10, number=688 * 10 ** 6)
         day = day_of(GREGORIAN, 2026, 2, 13)
@@ -229,6 +236,7 @@ class TooLargeRulesTest(unittest.TestCase):
     def test_40000_runs(self):
         self.assertEqual(len(rule_days(GREGORIAN, rule("day", 2, since=0, until=79999))[2]), 40000)
         self.assertEqual(len(rule_days(GREGORIAN, rule("day", 2, since=-5, until=79994))[2]), 40000)
+        self.assertEqual(len(rule_days(GREGORIAN, rule("day", 2, since=-5, until=79995))[2]), 40000)
         for one in (rule("day", 2, since=0, until=80000), rule("day", 2, since=0, number=40001),
                     rule("day", 2, since=-1, until=80000), rule("day", 2, since=-10 ** 30, until=10 ** 30),
                     rule("day", 2, since=5, until=10 ** 30, number=10 ** 9)):

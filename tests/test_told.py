@@ -2,7 +2,7 @@
 
 import unittest
 
-from everydue.calendars import GREGORIAN
+from everydue.calendars import GREGORIAN, day_of
 from everydue.daysets import ALL, EMPTY, normal, periodic, single
 from everydue.errors import TooLarge
 from everydue.expressions import told
@@ -91,12 +91,22 @@ class ToldTest(unittest.TestCase):
             self.assert_days((way, week, few), rolled(WEEK, FEW, way))
         self.assert_days(("place", week, "month", (2, -1)), placed(GREGORIAN, WEEK, "month", (2, -1)))
         self.assert_days(("place", week, "month", ()), EMPTY)
+        for unit in ("day", "week", "month", "year"):
+            self.assert_days(("place", week, unit, (1, -2)), placed(GREGORIAN, WEEK, unit, (1, -2)))
         self.assert_days(("every", week, 4, 5, 2), thinned(WEEK, 4, 5, 2))
 
     def test_days_and_moments(self):
         for way in ("both", "first", "last", "later", "earlier"):
             self.assert_moments(("at", NAME["few"], 90, "berlin", way), days_at(GREGORIAN, FEW, 90, BERLIN, way))
         self.assert_moments(("at", NAME["few"], 1999, "utc", "both"), NEVER)
+        # The local time 2:30 is not, or is twice, on these days of the year 2026.
+        days = (day_of(GREGORIAN, 2026, 3, 29), day_of(GREGORIAN, 2026, 10, 25))
+        told_by_ways = []
+        for way in ("both", "first", "last", "later", "earlier"):
+            expected = days_at(GREGORIAN, single(list(days)), 150, BERLIN, way)
+            self.assert_moments(("at", ("days", days), 150, "berlin", way), expected)
+            told_by_ways.append(expected)
+        self.assertEqual(len(set(told_by_ways)), 5)
         self.assert_days(("local days", NAME["evening"], "berlin"), local_days(GREGORIAN, EVENING, BERLIN))
         self.assert_moments(("wide", NAME["morning"], 7, 2000), widened(GREGORIAN, MORNING, 7, 2000))
         self.assert_moments(("room", NAME["morning"], 60), room(GREGORIAN, MORNING, 60))

@@ -85,6 +85,18 @@ class WidenedTest(MinutesetCase):
                         widened(calendar, large, back, on)
                     with self.assertRaises(TooLarge):
                         room(calendar, moments_other(calendar, large), back + on + 1)
+        # 13 times 3077 is 40,001, 13 times 3076 is not: a dayset with an odd number of borders goes on for ever.
+        for borders, large in ((3076, False), (3077, True)):
+            row = self.row(2 * (borders // 2))
+            if large:
+                row = (*row[:3], row[3] + 5, (1, (), True))
+            self.assertEqual(measure([row]), borders)
+            one = ((0, row), (3, EMPTY))
+            if large:
+                with self.assertRaises(TooLarge):
+                    widened(calendar, one, 110, 0)
+            else:
+                widened(calendar, one, 110, 0)
         # Just 40,000, and one whole day more.
         one = ((0, self.row(20000)), (3, EMPTY))
         widened(calendar, one, 5, 4)
