@@ -212,6 +212,26 @@ class BerlinTest(unittest.TestCase):
         self.assertFalse(holds(local_days(calendar, ALWAYS, zone), 2))
 
 
+    def test_moves_just_two_days_apart(self):
+        minutes = 10
+        calendar = ((30,), 1, 0, (), 1, 0, minutes)
+        zone = (3, ((0, -5), (20, 5), (40, -5), (60, 4), (80, 10), (100, 0), (120, 10)), None)
+        self.assertIsNone(zone_word(calendar, zone))
+        offset = {u: offset_at(calendar, zone, u) for u in range(-100, 300)}
+        for way in WAYS:
+            for minute in range(minutes):
+                told = days_at(calendar, (NOTHING, -5, ((-5, 20),), 20, NOTHING), minute, zone, way)
+                members = {u for day in range(-5, 20) for u in moments_of(calendar, zone, day * minutes + minute, way)}
+                self.assertEqual({u for u in offset if moment_holds(calendar, told, u)}, members)
+        for local in range(-50, 250):
+            answers = [u for u in offset if u + offset[u] == local]
+            self.assertEqual(moments_of(calendar, zone, local, "both"), answers)
+            if not answers:
+                (ahead, behind), = [(offset[m - 1], q) for m, q in zone[1] if m + offset[m - 1] <= local < m + q]
+                self.assertEqual(moments_of(calendar, zone, local, "later"), [local - ahead])
+                self.assertEqual(moments_of(calendar, zone, local, "earlier"), [local - behind])
+
+
 class TooLargeZonesTest(unittest.TestCase):
 
     def test_just_as_the_list_is(self):
@@ -250,6 +270,20 @@ class TooLargeZonesTest(unittest.TestCase):
         local_days(GREGORIAN, ((0, half), (3, EMPTY), (5, half)), UTC)
         with self.assertRaises(TooLarge):
             local_days(GREGORIAN, ((0, half), (3, single([7])), (5, half)), UTC)
+
+    def test_the_offsets_at_the_minute_0(self):
+        # From day 6 to day 8 the offset at the minute 0 is another one; at the minute 1 it is so from day 5 on.
+        zone = (0, ((5 * 1440 + 1, 60), (8 * 1440, 0)), None)
+        for first, large in ((5, False), (6, True)):
+            side = (10 ** 6, (first, *range(10, 10 + 2 * 19996, 2), 50001), False)
+            self.assertEqual(len(side[1]), 19998)
+            one = (side, 0, (), 0, side)
+            for ask in (lambda: days_at(GREGORIAN, one, 1, zone, "both"), lambda: local_days(GREGORIAN, ((0, one),), zone)):
+                if large:
+                    with self.assertRaises(TooLarge):
+                        ask()
+                else:
+                    ask()
 
     def test_common_multiples(self):
         # 146,097 is 3 times 48,699: the common multiple with 10 ** 12 is above 10 ** 12.
