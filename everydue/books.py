@@ -3,13 +3,12 @@
 from everydue.calendars import calendar_fault
 from everydue.checks import is_name
 from everydue.errors import InvalidCalendar, InvalidExpression, InvalidName, InvalidZone, NoShift, UnknownName
-from everydue.expressions import expression_fault, names_in, told
+from everydue.expressions import expression_fault, names_in, told, unheld
 from everydue.joins import without
+from everydue.kinds import DAYS, SETS
 from everydue.links import circles_in, held_links, in_order, order_behind, reached_from, turned_links
 from everydue.minutes import moments_without
 from everydue.zones import zone_word
-
-_SETS = ("days", "moments")
 
 
 class Book:
@@ -125,9 +124,9 @@ class Book:
     def shift(self, name):
         """Returns what went from an entry with the last deed, and what came (point 56); raises NoShift or TooLarge."""
         old, new = self._before.get(name), self._answers.get(name)
-        if old is None or new is None or old[0] != new[0] or old[0] not in _SETS:
+        if old is None or new is None or old[0] != new[0] or old[0] not in SETS:
             raise NoShift("the entry has no two answers of one kind")
-        if old[0] == "days":
+        if old[0] == DAYS:
             return without(old[1], new[1]), without(new[1], old[1])
         if self._reformed:
             raise NoShift("the days have other minutes than before")
@@ -143,6 +142,45 @@ class Book:
         if name not in self._entries:
             raise UnknownName(name)
         return sorted(reached_from(turned_links(self._links), name))
+
+    def become(self, calendar, zones, entries):
+        """Lays a calendar, zones and entries down, all without a fault, in the place of all that the book holds.
+
+        The answers of what stays as it was are kept. The book is then as if there was no deed yet.
+        """
+        laid = {name: True for name in entries if self._entries.get(name) != entries[name]}
+        if calendar != self._calendar:
+            laid = {name: True for name in entries}
+        touched = {("zone", name): True for name in [*self._zones, *zones] if self._zones.get(name) != zones.get(name)}
+        for name in [*self._entries, *entries]:
+            if name not in self._entries or name not in entries:
+                touched[("entry", name)] = True
+        fitting = {}
+        for name, zone in zones.items():
+            stays = calendar == self._calendar and name in self._zones and ("zone", name) not in touched
+            fitting[name] = self._fitting[name] if stays else zone_word(calendar, zone) is None
+        self._calendar, self._zones, self._fitting, self._entries = calendar, dict(zones), fitting, dict(entries)
+        self._spoken = {name: names_in(expression) for name, expression in entries.items()}
+        self._begin(False)
+        self._renew(laid, touched)
+        self._before = dict(self._answers)
+        self._made = 0
+
+    def twin(self):
+        """Returns another book that holds the same and tells the same of the last deed."""
+        book = Book(self._calendar)
+        # Deeds change these four; all the others they put something new in the place of.
+        book._zones = dict(self._zones)
+        book._fitting = dict(self._fitting)
+        book._entries = dict(self._entries)
+        book._spoken = dict(self._spoken)
+        book._links = self._links
+        book._circles = self._circles
+        book._answers = self._answers
+        book._before = self._before
+        book._made = self._made
+        book._reformed = self._reformed
+        return book
 
     def _begin(self, reformed):
         """Keeps the answers as they are before a deed."""
@@ -201,13 +239,8 @@ def _answer_outside(calendar, fitting, answers, expression, pairs):
     fitting is a dict of the zones that fit, answers one of answers, with all entries that are held and of which it
     speaks; pairs is what names_in tells of the expression.
     """
-    for kind, name in pairs:
-        if name not in (answers if kind == "entry" else fitting):
-            return ("missing", name)
-    for name in _entries_in(pairs):
-        if answers[name][0] not in _SETS:
-            return ("through", name)
-    return told(calendar, fitting, answers, expression)
+    answer = unheld(fitting, answers, pairs)
+    return told(calendar, fitting, answers, expression) if answer is None else answer
 
 
 def _entries_in(pairs):

@@ -15,13 +15,13 @@ GREGORIAN = (
     1440,
 )
 
-_MOST_MONTHS = 24
-_LONGEST_MONTH = 60
-_MOST_EXTRA = 30
-_MOST_RULES = 6
-_GREATEST_DIVISOR = 1000
-_LONGEST_WEEK = 14
-_MOST_MINUTES = 2000
+MOST_MONTHS = 24
+LONGEST_MONTH = 60
+MOST_EXTRA = 30
+MOST_RULES = 6
+GREATEST_DIVISOR = 1000
+LONGEST_WEEK = 14
+MOST_MINUTES = 2000
 _MOST_GREAT_CYCLE = 400000
 
 
@@ -32,15 +32,15 @@ def calendar_fault(calendar):
         return "months"
     if not is_from_to(longer, 1, len(months)):
         return "longer"
-    if not is_from_to(extra, 0, _MOST_EXTRA):
+    if not is_from_to(extra, 0, MOST_EXTRA):
         return "extra"
     if not _are_rules(rules):
         return "rules"
-    if not is_from_to(week, 1, _LONGEST_WEEK):
+    if not is_from_to(week, 1, LONGEST_WEEK):
         return "week"
     if not is_from_to(first, 0, week - 1):
         return "first"
-    if not is_from_to(minutes, 1, _MOST_MINUTES):
+    if not is_from_to(minutes, 1, MOST_MINUTES):
         return "minutes"
     if cycle_of(calendar)[1] > _MOST_GREAT_CYCLE:
         return "cycle"
@@ -49,21 +49,21 @@ def calendar_fault(calendar):
 
 def _are_months(months):
     """Whether a value is the months of a calendar."""
-    if not is_tuple(months) or not 1 <= len(months) <= _MOST_MONTHS:
+    if not is_tuple(months) or not 1 <= len(months) <= MOST_MONTHS:
         return False
-    return all([is_from_to(days, 1, _LONGEST_MONTH) for days in months])
+    return all([is_from_to(days, 1, LONGEST_MONTH) for days in months])
 
 
 def _are_rules(rules):
     """Whether a value is the rules of a calendar."""
-    if not is_tuple(rules) or len(rules) > _MOST_RULES:
+    if not is_tuple(rules) or len(rules) > MOST_RULES:
         return False
     return all([_is_rule(rule) for rule in rules])
 
 
 def _is_rule(rule):
     """Whether a value is one rule of a calendar."""
-    return is_tuple_of(rule, 2) and is_from_to(rule[0], 1, _GREATEST_DIVISOR) and is_flag(rule[1])
+    return is_tuple_of(rule, 2) and is_from_to(rule[0], 1, GREATEST_DIVISOR) and is_flag(rule[1])
 
 
 def is_long(calendar, year):

@@ -3,6 +3,10 @@
 None of them goes into a value deeper than its answer needs, so a value may be of any depth.
 """
 
+UNITS = ("day", "week", "month", "year")
+MOST_PLACES = 12
+GREATEST_PLACE = 400
+
 
 def is_whole(value):
     """Whether a value is a plain integer (True and False are none)."""
@@ -43,14 +47,17 @@ def is_name(value):
 
 def is_unit(value):
     """Whether a value is a unit (point 6)."""
-    return value in ("day", "week", "month", "year")
+    return value in UNITS
+
+
+def is_place(value):
+    """Whether a value is one of the places of a rule (point 20)."""
+    return is_from_to(value, -GREATEST_PLACE, GREATEST_PLACE) and value != 0
 
 
 def are_places(value):
     """Whether a value is the places of a rule (point 20)."""
-    if not is_tuple(value) or len(value) > 12:
-        return False
-    if not all([is_from_to(place, -400, 400) and place != 0 for place in value]):
+    if not is_tuple(value) or len(value) > MOST_PLACES or not all([is_place(place) for place in value]):
         return False
     return len(set(value)) == len(value)
 

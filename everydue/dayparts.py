@@ -48,10 +48,20 @@ def join_minutes(minutesets, flags):
 
     Raises TooLarge as point 29 says for or.
     """
+    rows, minutes = rows_to_join(minutesets)
+    return joined_at(minutes, rows, flags)
+
+
+def rows_to_join(minutesets):
+    """Returns some minutesets in their normal form, and the minutes of all of them.
+
+    Raises TooLarge as point 29 says for or.
+    """
     rows = [normal_pairs(minuteset) for minuteset in minutesets]
     refuse_too_large(daysets_of(rows))
-    refuse_many_pairs(minutes_of(rows))
-    return joined_at(minutes_of(rows), rows, flags)
+    minutes = minutes_of(rows)
+    refuse_many_pairs(minutes)
+    return rows, minutes
 
 
 def joined_at(minutes, rows, flags):

@@ -2,11 +2,11 @@
 
 from everydue.errors import TooLarge
 from everydue.forms import has_form, parts_of_tuple
-from everydue.kinds import kind_fault
+from everydue.kinds import SETS, kind_fault
 from everydue.telling import told_of_parts
 
-_MOST_TUPLES = 60
-_MOST_IN_ONE_ANOTHER = 12
+MOST_TUPLES = 60
+MOST_IN_ONE_ANOTHER = 12
 
 
 def expression_fault(expression):
@@ -18,13 +18,13 @@ def expression_fault(expression):
         value, depth = waiting.pop()
         if not has_form(value):
             return place
-        if depth > _MOST_IN_ONE_ANOTHER and deep is None:
+        if depth > MOST_IN_ONE_ANOTHER and deep is None:
             deep = place
         waiting.extend([(part, depth + 1) for part in parts_of_tuple(value)[::-1]])
         place += 1
-    if place <= _MOST_TUPLES:
+    if place <= MOST_TUPLES:
         return deep
-    return _MOST_TUPLES if deep is None else min(deep, _MOST_TUPLES)
+    return MOST_TUPLES if deep is None else min(deep, MOST_TUPLES)
 
 
 def tuples_of(expression):
@@ -59,6 +59,20 @@ def speaks_of(expression):
     pairs = names_in(expression)
     entries = tuple([name for kind, name in pairs if kind == "entry"])
     return entries, tuple([name for kind, name in pairs if kind == "zone"])
+
+
+def unheld(zones, answers, pairs):
+    """Returns the answer of items 2 and 3 of point 52 that an expression has, or None if it has none of these.
+
+    zones is a dict of the zones that fit, answers one of answers; pairs is what names_in tells of the expression.
+    """
+    for kind, name in pairs:
+        if name not in (answers if kind == "entry" else zones):
+            return ("missing", name)
+    for kind, name in pairs:
+        if kind == "entry" and answers[name][0] not in SETS:
+            return ("through", name)
+    return None
 
 
 def told(calendar, zones, answers, expression):

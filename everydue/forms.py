@@ -7,10 +7,10 @@ from everydue.rules import rule_fault
 
 WAYS = ("both", "first", "last", "later", "earlier")
 
-_MOST_DAYS = 200
-_MOST_PARTS = 12
-_GREATEST_STEP = 1000
-_GREATEST_MINUTE = 1999
+MOST_DAYS = 200
+MOST_PARTS = 12
+GREATEST_STEP = 1000
+GREATEST_MINUTE = 1999
 
 # For each name, how many members its tuples have.
 _LENGTHS = {
@@ -66,7 +66,7 @@ def _is_rule(value):
 
 def _is_days(value):
     """Returns whether a tuple has ascending days."""
-    return is_tuple(value[1]) and len(value[1]) <= _MOST_DAYS and is_ascending(value[1])
+    return is_tuple(value[1]) and len(value[1]) <= MOST_DAYS and is_ascending(value[1])
 
 
 def _is_set(value):
@@ -82,7 +82,7 @@ def _is_name(value):
 def _is_least(value):
     """Returns whether a tuple has a number and a row of so many members at least."""
     _, number, row = value
-    return is_tuple(row) and 1 <= len(row) <= _MOST_PARTS and is_from_to(number, 1, len(row))
+    return is_tuple(row) and 1 <= len(row) <= MOST_PARTS and is_from_to(number, 1, len(row))
 
 
 def _is_moved(value):
@@ -103,12 +103,12 @@ def _is_place(value):
 def _is_every(value):
     """Returns whether a tuple has a begin, a step and a rest."""
     _, _, begin, step, rest = value
-    return is_whole(begin) and is_from_to(step, 1, _GREATEST_STEP) and is_from_to(rest, 0, step - 1)
+    return is_whole(begin) and is_from_to(step, 1, GREATEST_STEP) and is_from_to(rest, 0, step - 1)
 
 
 def _is_at(value):
     """Returns whether a tuple has a minute, the name of a zone and a way."""
-    return is_from_to(value[2], 0, _GREATEST_MINUTE) and is_name(value[3]) and value[4] in WAYS
+    return is_from_to(value[2], 0, GREATEST_MINUTE) and is_name(value[3]) and value[4] in WAYS
 
 
 def _is_local_days(value):

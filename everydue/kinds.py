@@ -4,6 +4,7 @@ from everydue.forms import parts_of_tuple
 
 DAYS = "days"
 MOMENTS = "moments"
+SETS = ("days", "moments")
 
 _TELL_MOMENTS = ("at", "wide", "room")
 _AS_THEIR_FIRST = ("or", "and", "without", "not", "least", "moved", "between")
@@ -25,17 +26,17 @@ def kind_fault(answers, expression):
     place = 0
     while waiting:
         row, asked = waiting.pop()
-        if kind_of(answers, row) != asked:
+        kind = kind_of(answers, row)
+        if kind != asked:
             return place
-        waiting.extend([(part, _asked_by(answers, row)) for part in parts_of_tuple(row)[::-1]])
+        # What takes any kind tells what its first part tells.
+        waiting.extend([(part, asked_by(row, kind)) for part in parts_of_tuple(row)[::-1]])
         place += 1
     return None
 
 
-def _asked_by(answers, expression):
-    """Returns the kind for which a tuple asks; it is that of its first part if any kind will do."""
+def asked_by(expression, first):
+    """Returns the kind for which a tuple asks, if its first part tells this kind."""
     if expression[0] in _ASK_FOR_DAYS:
         return DAYS
-    if expression[0] in _AS_THEIR_FIRST:
-        return kind_of(answers, expression)
-    return MOMENTS
+    return first if expression[0] in _AS_THEIR_FIRST else MOMENTS

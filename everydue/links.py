@@ -55,18 +55,29 @@ def in_order(links):
 
 def circles_in(links):
     """Returns a dict with all names from which links lead back to themselves."""
-    found = {}
     ordered = {name: True for name in in_order(links)}
-    for name in links:
-        if name not in ordered and name not in found:
-            reached = reached_from(links, name)
+    left = _among(links, [name for name in links if name not in ordered])
+    # What is behind circles alone is ordered if the links are turned.
+    turned = turned_links(left)
+    behind = {name: True for name in in_order(turned)}
+    left = _among(left, [name for name in left if name not in behind])
+    turned = turned_links(left)
+    found = {}
+    for name in left:
+        if name not in found:
+            reached = reached_from(left, name)
             if name in reached:
-                turned = reached_from(turned_links(links), name)
-                found.update({other: True for other in reached if other in turned})
+                back = reached_from(turned, name)
+                found.update({other: True for other in reached if other in back})
     return found
+
+
+def _among(links, names):
+    """Returns the links of some names to one another."""
+    held = {name: True for name in names}
+    return {name: [other for other in links[name] if other in held] for name in names}
 
 
 def order_behind(links, circles):
     """Returns a list of the names that are in no circle, each behind those to which its links lead."""
-    outside = [name for name in links if name not in circles]
-    return in_order({name: [other for other in links[name] if other not in circles] for name in outside})
+    return in_order(_among(links, [name for name in links if name not in circles]))

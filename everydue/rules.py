@@ -9,12 +9,12 @@ from everydue.errors import TooLarge
 from everydue.sides import MOST_BORDERS, side_of_rests
 from everydue.tallies import SideTally
 
-_GREATEST_INTERVAL = 1000
-_GREATEST_NUMBER = 10 ** 9
-_MOST_MEMBERS = 60
+GREATEST_INTERVAL = 1000
+GREATEST_NUMBER = 10 ** 9
+MOST_MEMBERS = 60
 _MOST_RUNS = 40000
 
-_NAMES = ("months", "days", "year days", "weekdays", "month weekdays", "year weekdays", "weeks")
+LIST_NAMES = ("months", "days", "year days", "weekdays", "month weekdays", "year weekdays", "weeks")
 
 
 def rule_fault(rule):
@@ -22,7 +22,7 @@ def rule_fault(rule):
     unit, interval, anchor, lists, places, since, until, number = rule
     if not is_unit(unit):
         return "unit"
-    if not is_from_to(interval, 1, _GREATEST_INTERVAL):
+    if not is_from_to(interval, 1, GREATEST_INTERVAL):
         return "interval"
     if not is_whole(anchor):
         return "anchor"
@@ -34,16 +34,16 @@ def rule_fault(rule):
         return "since"
     if not is_whole_or_none(until):
         return "until"
-    if number is not None and (since is None or not is_from_to(number, 1, _GREATEST_NUMBER)):
+    if number is not None and (since is None or not is_from_to(number, 1, GREATEST_NUMBER)):
         return "number"
     return None
 
 
 def _are_lists(value):
     """Returns whether a value is the lists of a rule."""
-    if not is_tuple(value) or not all([is_tuple_of(row, 2) and row[0] in _NAMES for row in value]):
+    if not is_tuple(value) or not all([is_tuple_of(row, 2) and row[0] in LIST_NAMES for row in value]):
         return False
-    order = [_NAMES.index(row[0]) for row in value]
+    order = [LIST_NAMES.index(row[0]) for row in value]
     if not all([one < two for one, two in zip(order, order[1:])]):
         return False
     return all([_are_members(name, members) for name, members in value])
@@ -51,14 +51,14 @@ def _are_lists(value):
 
 def _are_members(name, members):
     """Returns whether a value is the members of the list with a name."""
-    if not is_tuple(members) or not 1 <= len(members) <= _MOST_MEMBERS:
+    if not is_tuple(members) or not 1 <= len(members) <= MOST_MEMBERS:
         return False
-    if not all([_is_member(name, member) for member in members]):
+    if not all([is_member(name, member) for member in members]):
         return False
     return len(set(members)) == len(members)
 
 
-def _is_member(name, member):
+def is_member(name, member):
     """Returns whether a value is a member of the list with a name."""
     if name == "weekdays":
         return is_from_to(member, 0, 13)

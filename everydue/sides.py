@@ -4,7 +4,7 @@ from everydue.checks import is_flag, is_from_to, is_tuple, is_tuple_of
 
 MOST_BORDERS = 40000
 
-_GREATEST_PERIOD = 10 ** 12
+GREATEST_PERIOD = 10 ** 12
 
 
 def is_side(value):
@@ -12,7 +12,7 @@ def is_side(value):
     if not is_tuple_of(value, 3):
         return False
     period, borders, inside = value
-    if not is_from_to(period, 1, _GREATEST_PERIOD) or not is_flag(inside):
+    if not is_from_to(period, 1, GREATEST_PERIOD) or not is_flag(inside):
         return False
     if not is_tuple(borders) or len(borders) > MOST_BORDERS or len(borders) % 2 == 1:
         return False

@@ -11,14 +11,14 @@ from everydue.turns import great_turns, last_turn, next_turn
 
 UTC = (0, (), None)
 
-_GREATEST_OFFSET = 2000
-_MOST_MOVES = 60
-_MOST_ROWS = 4
+GREATEST_OFFSET = 2000
+MOST_MOVES = 60
+MOST_ROWS = 4
 
 
 def zone_word(calendar, zone):
     """Returns None if a zone fits a calendar, or the word for what is wrong with it (point 35)."""
-    if not _is_zone(zone):
+    if not has_zone_form(zone):
         return "form"
     offset, moves, turns = zone
     rows = () if turns is None else turns[1]
@@ -37,12 +37,12 @@ def zone_word(calendar, zone):
     return "near" if _are_near(minutes, offset, [*moves, *turned, *again]) else None
 
 
-def _is_zone(value):
+def has_zone_form(value):
     """Returns whether a value has the form of a zone (point 34)."""
     if not is_tuple_of(value, 3):
         return False
     offset, moves, turns = value
-    if not _is_offset(offset) or not is_tuple(moves) or len(moves) > _MOST_MOVES:
+    if not _is_offset(offset) or not is_tuple(moves) or len(moves) > MOST_MOVES:
         return False
     if not all([is_tuple_of(move, 2) and is_whole(move[0]) and _is_offset(move[1]) for move in moves]):
         return False
@@ -53,7 +53,7 @@ def _is_zone(value):
 
 def _are_rows(value):
     """Returns whether a value is the rows of the turns of a zone."""
-    if not is_tuple(value) or not 1 <= len(value) <= _MOST_ROWS:
+    if not is_tuple(value) or not 1 <= len(value) <= MOST_ROWS:
         return False
     return all([_is_row(row) for row in value])
 
@@ -72,7 +72,7 @@ def _is_row(value):
 
 def _is_offset(value):
     """Returns whether a value is an offset."""
-    return is_from_to(value, -_GREATEST_OFFSET, _GREATEST_OFFSET)
+    return is_from_to(value, -GREATEST_OFFSET, GREATEST_OFFSET)
 
 
 def _are_near(minutes, offset, moves):

@@ -102,6 +102,51 @@ FUNCTIONS = {
     "everydue.books": {
         "answer_of": ["calendar", "zones", "entries", "name"],
     },
+    "everydue.papers": {
+        "paper_of": ["calendar", "zones", "answers", "expression"],
+        "judge_paper": ["calendar", "zones", "answers", "expression", "paper"],
+        "near_days": ["dayset", "back", "on"],
+    },
+    "everydue.claims": {
+        "claim_fault": ["claim"],
+        "decide": ["calendar", "zones", "answers", "claim", "near"],
+        "judge_claim": ["calendar", "zones", "answers", "claim", "papers"],
+        "judge_against": ["calendar", "zones", "answers", "claim", "against", "papers"],
+    },
+    "everydue.texts": {
+        "format_rule": ["rule"],
+        "parse_rule": ["text"],
+        "format_dayset": ["dayset"],
+        "parse_dayset": ["text"],
+        "format_minuteset": ["minuteset"],
+        "parse_minuteset": ["text"],
+        "format_zone": ["zone"],
+        "parse_zone": ["text"],
+    },
+    "everydue.exprtexts": {
+        "format_expression": ["expression"],
+        "parse_expression": ["text"],
+    },
+    "everydue.booktexts": {
+        "format_calendar": ["calendar"],
+        "parse_calendar": ["text"],
+        "format_book": ["book"],
+        "parse_book": ["text"],
+        "format_deeds": ["deeds"],
+        "parse_deeds": ["text"],
+        "format_claim": ["claim"],
+        "parse_claim": ["text"],
+        "format_paper": ["paper"],
+        "parse_paper": ["text"],
+    },
+    "everydue.spans": {
+        "busy": ["calendar", "minuteset", "length"],
+        "load": ["calendar", "minutesets", "moment"],
+        "greatest_load": ["calendar", "minutesets", "moment"],
+        "loads": ["calendar", "minutesets"],
+        "meeting": ["calendar", "minutesets", "number", "length", "moment"],
+        "turns_taken": ["calendar", "minutesets", "moment", "many"],
+    },
 }
 
 METHODS = {
@@ -129,6 +174,19 @@ METHODS = {
         "shift": ["self", "name"],
         "rows": ["self"],
         "behind": ["self", "name"],
+    },
+    ("everydue.devices", "Device"): {
+        "__init__": ["self", "calendar", "number"],
+        "make": ["self", "action"],
+        "receive": ["self", "deeds"],
+        "book": ["self"],
+        "deeds": ["self"],
+        "news": ["self", "stamps"],
+        "lacks": ["self", "stamps"],
+        "undo_last": ["self"],
+        "redo_last": ["self"],
+        "settle": ["self", "stamp"],
+        "laid": ["self"],
     },
 }
 
