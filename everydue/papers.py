@@ -81,7 +81,9 @@ def _is_right(calendar, zones, answers, expression, parts, member):
 
     A part that is no set without a fault is None.
     """
-    if any([part is None or part[0] != asked_by(expression, parts[0][0]) for part in parts]):
+    if any([part is None for part in parts]):
+        return False
+    if any([part[0] != asked_by(expression, parts[0][0]) for part in parts]):
         return False
     try:
         answer = told_of_parts(calendar, zones, answers, expression, parts)
