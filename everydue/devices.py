@@ -15,7 +15,8 @@ class Device:
         self._number = number
         # The actions that are kept, under their stamps.
         self._kept = {}
-        self._settled = None
+        # All stamps that were settled, ascending: what was for good once stays so.
+        self._settled = []
         self._laid = 0
         # The working deeds, and those of them that made the book.
         self._works = []
@@ -93,7 +94,7 @@ class Device:
                 named = self._kept[kept][1]
                 if named <= up_to[-1] and self._reaches(kept, named):
                     raise NotSettled(kept)
-        self._settled = up_to[-1]
+        self._settled.append(up_to[-1])
 
     def laid(self):
         """Returns how many working deeds the last change laid anew (point 68)."""
@@ -122,7 +123,7 @@ class Device:
 
     def _is_settled(self, stamp):
         """Returns whether a stamp is not behind the settled one."""
-        return self._settled is not None and stamp <= self._settled
+        return bool(self._settled) and stamp <= self._settled[-1]
 
     def _is_undo(self, stamp):
         """Returns whether the kept deed with a stamp is an undo."""
@@ -132,7 +133,8 @@ class Device:
         """Returns whether the undo with a stamp undoes the deed that it names, if it is not undone itself."""
         if named not in self._kept or named[1] != stamp[1] or named[0] >= stamp[0]:
             return False
-        return self._is_settled(stamp) or not self._is_settled(named)
+        # Behind a settled stamp nothing up to it can be undone.
+        return not any([named <= settled < stamp for settled in self._settled])
 
     def _undone(self):
         """Returns a dict of the stamps of all kept deeds that are undone (point 62)."""
