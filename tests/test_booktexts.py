@@ -112,6 +112,7 @@ class BookTextsTest(TextCase):
             (f"{book} with A", start + 1), (f"{book} with ;", start + 1), (f"{book} with a ;", start + 2), (f"{book} with a zone 0 ;", start + 5),
             (f"{book} with a zone 0 ; with a", start + 6), (f"{book} with b zone 0 ; with a zone 0 ; ;", start + 6),
             (f"{book} with b zone 0 ; with aa zone 0 ; ;", start + 6), (f"{book} with a zone 0 ; with aa zone 0 ; ;", None),
+            (f"{book} with b zone 0 ; with d zone 0 ; with c zone 0 ; ;", start + 11), (f"{book} let b @a let d @a let c @a ;", start + 7),
             (f"{book} with b zone 0 ; let a @a ;", None), (f"{book} let a @a with b", start + 3), (f"{book} let a", start + 2),
             (f"{book} let a ;", start + 2), (f"{book} let a @a let a", start + 4), (f"{book} let b @a let a @b ;", start + 4),
             (f"{book} let zzzzzzzzzzzz @a let", start + 4), (f"{book} let zzzzzzzzzzzz @a let zzzzzzzzzzzz", start + 4),

@@ -59,7 +59,7 @@ class ExpressionTextsTest(TextCase):
     def test_refused(self):
         for text, number in (
             ("", 0), ("a", 0), ("@", 0), ("@a @b", 1), ("@abcdefghijklm", 0), ("@A", 0), ("@a1", 0), ("@@a", 0), (" @a", 0), ("@a ", 1),
-            ("days", 1), ("days 1", 2), ("days 1 1", 2), ("days 2 1", 2), ("days none", 1), ("days -1 0 1 ; ;", 5), ("name a", 0), ("@ a", 0),
+            ("days", 1), ("days 1", 2), ("days 1 1", 2), ("days 2 1", 2), ("days 1 5 3 ;", 3), ("days 1 5 5 ;", 3), ("days none", 1), ("days -1 0 1 ; ;", 5), ("name a", 0), ("@ a", 0),
             ("set", 1), ("set ;", 1), ("rule ;", 1), ("rules", 0), ("or", 1), ("or @a", 2), ("or ; @a", 1), ("or @a ;", 2), ("or @a @b ;", 3),
             ("not", 1), ("not ;", 1), ("least", 1), ("least 0", 1), ("least 13", 1), ("least @a ;", 1), ("least 1", 2), ("least 1 ;", 2),
             ("least 2 @a ;", 3), ("least 2 @a @b", 4), ("least 2 @a @b ; ;", 5), ("least 2 @a @b ) ;", 4),

@@ -43,7 +43,7 @@ class RuleTextsTest(TextCase):
             ("", 0), (" ", 0), ("rule", 1), ("rules day 1 0 ;", 0), ("rule days", 1), ("rule day 0", 2), ("rule day 1001", 2),
             ("rule day -1", 2), ("rule day 1 none", 3), ("rule day 1 0 ; ;", 5), ("rule day 1 0 months", 5), ("rule day 1 0 months ;", 5),
             ("rule day 1 0 months 0", 5), ("rule day 1 0 months 2001", 5), ("rule day 1 0 months -2001", 5), ("rule day 1 0 months 1/1", 5),
-            ("rule day 1 0 months 3 4 3 ;", 7), ("rule day 1 0 months 3 months 4", 6), ("rule day 1 0 days 3 months 4", 6),
+            ("rule day 1 0 months 3 4 3 ;", 7), ("rule day 1 0 months 3 x4", 6), ("rule day 1 0 places 3 4x", 6), ("rule day 1 0 months 3 months 4", 6), ("rule day 1 0 days 3 months 4", 6),
             ("rule day 1 0 weekdays 14", 5), ("rule day 1 0 weekdays -1", 5), ("rule day 1 0 month-weekdays 1", 5),
             ("rule day 1 0 month-weekdays 14/1", 5), ("rule day 1 0 month-weekdays 1/0", 5), ("rule day 1 0 month-weekdays 1/401", 5),
             ("rule day 1 0 month-weekdays 1/-0", 5), ("rule day 1 0 month-weekdays 1/1/1", 5), ("rule day 1 0 month-weekdays -1/1", 5),
@@ -134,7 +134,7 @@ class MinutesetTextsTest(TextCase):
     def test_refused(self):
         day = "1 out ; 0 ; 0 1 out ;"
         for text, number in (
-            ("", 0), ("minutes", 1), ("minutes ;", 1), ("minutes 1", 1), ("minutes 0", 2), ("minutes 0 ;", 2), (f"minutes 0 {day}", 11),
+            ("", 0), ("minutes", 1), ("minutes ;", 1), ("minutes 1", 1), ("minutes -1", 1), ("minutes 0", 2), ("minutes 0 ;", 2), (f"minutes 0 {day}", 11),
             (f"minutes 0 {day} ;", None), (f"minutes 0 {day} ; ;", 12), (f"minutes 0 {day} 0", 11), (f"minutes 0 {day} 2000", 11),
             (f"minutes 0 {day} 1999 {day} ;", None), (f"minutes 0 {day} 1999 {day} 1999", 21), (f"minutes 0 {day} 1999 {day} 2000", 21),
             (f"minutes 0 {day} 7 {day} 6", 21), (f"minutes 0 {day} 7 {day} 7", 21), (f"minutes 0 set {day} ;", 2), (f"0 {day} ;", 0),
@@ -166,7 +166,7 @@ class ZoneTextsTest(TextCase):
         for text, number in (
             ("", 0), ("zone", 1), ("zone ;", 1), ("zone 2001", 1), ("zone -2001", 1), ("zone -2000", 2), ("zone 0 5", 2), ("zone 0 ; ;", 3),
             ("zone 0 move", 3), ("zone 0 move 5", 4), ("zone 0 move 5 2001", 4), ("zone 0 move 5 0 move 5", 6), ("zone 0 move 5 0 move 4", 6),
-            ("zone 0 move 5 0 move 6 0 ;", None), ("zone 0 from", 3), ("zone 0 from 5 ;", 4), ("zone 0 from 5 move", 4), ("zone 0 from none", 3),
+            ("zone 0 move 5 0 move 6 0 ;", None), ("zone 0 move 5 0 move 9 0 move 7", 9), ("zone 0 from", 3), ("zone 0 from 5 ;", 4), ("zone 0 from 5 move", 4), ("zone 0 from none", 3),
             (f"zone 0 from -5 {row} ;", None), (f"zone 0 from 5 {row} move 1 1", 10), (f"zone 0 from 5 {row} from 6", 10),
             (f"zone 0 from 5 {row} {row} {row} {row} ;", None), (f"zone 0 from 5 {row} {row} {row} {row} turn", 28),
             ("zone 0 from 5 turn 0", 5), ("zone 0 from 5 turn 1 0", 6), ("zone 0 from 5 turn 1 -1 -1", 7), ("zone 0 from 5 turn 1 -1 none", 7),
