@@ -7,6 +7,7 @@ from everydue.books import Book, answer_of
 from everydue.calendars import GREGORIAN
 from everydue.daysets import ALL, EMPTY, single
 from everydue.errors import EverydueError, InvalidCalendar, InvalidExpression, InvalidName, InvalidZone, NoShift, TooLarge
+from everydue.joins import moved
 from everydue.minutes import NEVER
 from everydue.zones import UTC
 from tests.plain_books import CALENDARS, NAMES, ZONE_NAMES, ZONES, do, plain_answer, some_deed, some_expression
@@ -296,6 +297,19 @@ class ManyDeedsTest(unittest.TestCase):
                 self.assertEqual(plain_answer(calendar, zones, entries, name), book.answer(name))
                 self.assertEqual(answer_of(calendar, zones, entries, name), book.answer(name))
             self.assertEqual((again.rows(), [again.behind(name) for name in entries]), (book.rows(), [book.behind(name) for name in entries]))
+
+    def test_another_calendar_laid_down_at_once(self):
+        entries = {"a": ("place", ("set", ALL), "year", (1,)), "b": ("at", A, 3, "p", "both"), "c": ("name", "b")}
+        book = Book(LITTLE)
+        book.become(LITTLE, {"p": (5, (), None)}, entries)
+        kept = [book.answer(name) for name in "abc"]
+        book.become(((6,), 1, 0, (), 3, 0, 9), {"p": (5, (), None)}, entries)
+        self.assertEqual(book.answer("a")[1][0], (6, (0, 1), False))
+        self.assertEqual(book.answer("c")[1], ((0, EMPTY), (7, moved(book.answer("a")[1], -1)), (8, EMPTY)))
+        book.become(SHORT, {"p": (5, (), None)}, entries)
+        self.assertEqual([book.answer(name) for name in "bc"], [("missing", "p"), ("through", "b")])
+        book.become(LITTLE, {"p": (5, (), None)}, entries)
+        self.assertEqual([book.answer(name) for name in "abc"], kept)
 
     def test_laid_down_at_once(self):
         # Devices and texts lay a whole book down in the place of another one.

@@ -37,7 +37,7 @@ class CalendarTextsTest(TextCase):
 
     def test_refused(self):
         for text, number in (
-            ("", 0), ("calendar", 1), ("calendar ;", 1), ("calendar 0", 1), ("calendar 61", 1), ("calendar 60 60", 3), ("calendar 5 ; 0", 3),
+            ("", 0), ("calendar", 1), ("calendar ;", 1), ("calendar 0", 1), ("calendar 61", 1), ("calendar 60 60", 3), ("calendar 5 0", 2), ("calendar 5 61", 2), ("calendar 5 ; 0", 3),
             ("calendar 5 ; 2", 3), ("calendar 5 6 ; 2 31", 5), ("calendar 5 ; 1 -1", 4), ("calendar 5 ; 1 0 0/long", 5),
             ("calendar 5 ; 1 0 1001/long", 5), ("calendar 5 ; 1 0 4/Long", 5), ("calendar 5 ; 1 0 4/long/", 5), ("calendar 5 ; 1 0 04/long", 5),
             ("calendar 5 ; 1 0 4", 5), ("calendar 5 ; 1 0 /long", 5), ("calendar 5 ; 1 0 4 /long", 5), ("calendar 5 ; 1 0 -4/long", 5),
