@@ -66,15 +66,30 @@ def rows_to_join(minutesets):
 
 def joined_at(minutes, rows, flags):
     """Returns the same as join_minutes of normal minutesets, whatever its size; the minutes are all of theirs."""
+    numbers = _numbers_of(rows)
     places = [0 for _ in rows]
+    known = {}
     pairs = []
     for minute in minutes:
         for index, row in enumerate(rows):
             if places[index] < len(row) and row[places[index]][0] == minute:
                 places[index] += 1
         days = [row[place - 1][1] for row, place in zip(rows, places)]
-        pairs.append((minute, combined(days, flags)))
+        # The same daysets often stand at many minutes: they are joined once.
+        key = tuple([numbers[index][place - 1] for index, place in enumerate(places)])
+        if key not in known:
+            known[key] = combined(days, flags)
+        pairs.append((minute, known[key]))
     return merged(pairs)
+
+
+def _numbers_of(rows):
+    """Returns, for each of some minutesets, a list of numbers of its daysets, which are the same for equal ones."""
+    known = {}
+    for dayset in daysets_of(rows):
+        if dayset not in known:
+            known[dayset] = len(known)
+    return [[known[dayset] for _, dayset in row] for row in rows]
 
 
 def any_of(rows):

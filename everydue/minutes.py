@@ -170,14 +170,13 @@ def moments_meet_ever(calendar, one, two):
 
 def share(calendar, minuteset):
     """Returns the parts of all moments of the far past and of the far future that are in (point 44)."""
-    rows = normal_pairs(minuteset)
-    return _share_of_side(calendar, rows, 0), _share_of_side(calendar, rows, 4)
+    return _share_of_side(calendar, minuteset, 0), _share_of_side(calendar, minuteset, 4)
 
 
-def _share_of_side(calendar, rows, member):
+def _share_of_side(calendar, minuteset, member):
     """Returns the part of all moments that is in the sides, which are this member of the daysets, of a minuteset."""
     over, under = 0, 1
-    for begin, end, dayset in parts_of(calendar, rows):
+    for begin, end, dayset in parts_of(calendar, minuteset):
         tally = SideTally(dayset[member])
         over = over * tally.period + (end - begin) * tally.many * under
         under *= tally.period
