@@ -16,10 +16,10 @@ def read_side(words):
     inside = words.take_one(("in", "out")) == "in"
     borders = []
     while len(borders) < MOST_BORDERS and words.upcoming() != ";":
-        borders.append(words.take_whole(borders[-1] + 1 if borders else 0, period - 1))
+        # Borders stand in twos, so the first one of two is right only if it leaves room for the other one.
+        first = words.take_whole(borders[-1] + 1 if borders else 0, period - 2)
+        borders.extend([first, words.take_whole(first + 1, period - 1)])
     words.take_one((";",))
-    if len(borders) % 2 == 1:
-        words.refuse()
     return (period, tuple(borders), inside)
 
 

@@ -60,7 +60,8 @@ class ExpressionTextsTest(TextCase):
         for text, number in (
             ("", 0), ("a", 0), ("@", 0), ("@a @b", 1), ("@abcdefghijklm", 0), ("@A", 0), ("@a1", 0), ("@@a", 0), (" @a", 0), ("@a ", 1),
             ("days", 1), ("days 1", 2), ("days 1 1", 2), ("days 2 1", 2), ("days 1 5 3 ;", 3), ("days 1 5 5 ;", 3), ("days none", 1), ("days -1 0 1 ; ;", 5), ("name a", 0), ("@ a", 0),
-            ("set", 1), ("set ;", 1), ("rule ;", 1), ("rules", 0), ("or", 1), ("or @a", 2), ("or ; @a", 1), ("or @a ;", 2), ("or @a @b ;", 3),
+            ("set", 1), ("set ;", 1), ("set 1 out 0 ;", 3), ("not set 5 in 4", 4), ("set 5 in 3 ;", 4), ("or @a set 3 in 0 1 2 ;", 7),
+            ("rule ;", 1), ("rules", 0), ("or", 1), ("or @a", 2), ("or ; @a", 1), ("or @a ;", 2), ("or @a @b ;", 3),
             ("not", 1), ("not ;", 1), ("least", 1), ("least 0", 1), ("least 13", 1), ("least @a ;", 1), ("least 1", 2), ("least 1 ;", 2),
             ("least 2 @a ;", 3), ("least 2 @a @b", 4), ("least 2 @a @b ; ;", 5), ("least 2 @a @b ) ;", 4),
             ("least 12" + " @a" * 11 + " ;", 13), ("least 12" + " @a" * 12 + " ;", None), ("least 1" + " @a" * 13 + " ;", 14),

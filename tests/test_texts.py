@@ -89,8 +89,8 @@ class DaysetTextsTest(TextCase):
     def test_refused(self):
         for text, number in (
             ("", 0), ("set", 1), ("1 out ; 0 ; 0 1 out ;", 0), ("set 0", 1), ("set -1", 1), ("set 1000000000000", 2),
-            ("set 1000000000001", 1), ("set 1 on", 2), ("set 1 out 0", 4), ("set 1 out 0 ;", 4), ("set 1 out 1", 3), ("set 7 in 0 ;", 4),
-            ("set 7 in 6", 4), ("set 7 in 6 7", 4), ("set 7 in 3 3", 4), ("set 7 in 3 2", 4), ("set 7 in 3 5 4", 5), ("set 7 in 3 5 6 ;", 6),
+            ("set 1000000000001", 1), ("set 1 on", 2), ("set 1 out 0", 3), ("set 1 out 0 ;", 3), ("set 1 out 1", 3), ("set 7 in 0 ;", 4),
+            ("set 7 in 5", 4), ("set 7 in 6", 3), ("set 7 in 5 7", 4), ("set 7 in 3 3", 4), ("set 7 in 3 2", 4), ("set 7 in 3 5 4", 5), ("set 7 in 3 5 6 ;", 5), ("set 8 in 3 5 6 ;", 6),
             ("set 7 in -1", 3), ("set 7 in 0..1", 3), ("set 1 out ; none", 4), ("set 1 out ; 5 4..6", 5), ("set 1 out ; 5 5..5", 5),
             ("set 1 out ; 5 6..5", 5), ("set 1 out ; 5 5..6 6..8", 6), ("set 1 out ; 5 5..6 7..8 ; 7", 8), ("set 1 out ; 5 5..6 7..8 ; 8", 9),
             ("set 1 out ; 5 ; 4", 6), ("set 1 out ; 5 ; 5", 7), ("set 1 out ; 5 7", 5), ("set 1 out ; 5 ; 6..7", 6), ("set 1 out ; 5 7..", 5),
@@ -138,7 +138,7 @@ class MinutesetTextsTest(TextCase):
             (f"minutes 0 {day} ;", None), (f"minutes 0 {day} ; ;", 12), (f"minutes 0 {day} 0", 11), (f"minutes 0 {day} 2000", 11),
             (f"minutes 0 {day} 1999 {day} ;", None), (f"minutes 0 {day} 1999 {day} 1999", 21), (f"minutes 0 {day} 1999 {day} 2000", 21),
             (f"minutes 0 {day} 7 {day} 6", 21), (f"minutes 0 {day} 7 {day} 7", 21), (f"minutes 0 set {day} ;", 2), (f"0 {day} ;", 0),
-            (f"minutes 0 {day} 1 1 out 0 ;", 15),
+            (f"minutes 0 {day} 1 1 out 0 ;", 14), (f"minutes 0 {day} 1 2 out 0 ;", 15), ("minutes 0 5 in 4 ;", 4), ("minutes 0 5 in 0 1 4", 6),
         ):
             self.assert_refused(parse_minuteset, text, number)
 
